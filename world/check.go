@@ -1,6 +1,9 @@
 package world
 
-import "meridian/api"
+import (
+	"meridian/api"
+	"meridian/number"
+)
 
 const maxChambers = 8
 
@@ -27,7 +30,7 @@ type check struct {
 func Check(w World) api.Errno {
 	checks := [...]check{
 		{api.ErrMany, func() bool {
-			return within(len(w.Chambers), 1, maxChambers) && within(len(w.Clocks), 1, api.MaxClocks)
+			return number.Within(len(w.Chambers), 1, maxChambers) && number.Within(len(w.Clocks), 1, api.MaxClocks)
 		}},
 		{api.ErrRange, func() bool { return all(w.Chambers, Chamber.allowed) }},
 		{api.ErrClock, func() bool {
@@ -44,7 +47,7 @@ func Check(w World) api.Errno {
 }
 
 func (c Chamber) allowed() bool {
-	return within(c.Base, 0, 1000000) && within(c.Swing, 0, 100000) && within(c.Period, 2, api.MaxSeconds)
+	return number.Within(c.Base, 0, 1000000) && number.Within(c.Swing, 0, 100000) && number.Within(c.Period, 2, api.MaxSeconds)
 }
 
 // allowed leaves the events out: they are looked at after all clocks.
@@ -53,13 +56,13 @@ func (c Clock) allowed(chambers int) bool {
 		return false
 	}
 	most := limits[c.Kind]
-	return within(c.Phase, -MaxStart, MaxStart) &&
-		within(c.Rate, -most.rate, most.rate) &&
-		within(c.Drift, -most.drift, most.drift) &&
-		within(c.White, 0, most.white) &&
-		within(c.Walk, 0, most.walk) &&
-		within(c.Heat, -MaxHeat, MaxHeat) &&
-		isIndex(c.Chamber, chambers)
+	return number.Within(c.Phase, -MaxStart, MaxStart) &&
+		number.Within(c.Rate, -most.rate, most.rate) &&
+		number.Within(c.Drift, -most.drift, most.drift) &&
+		number.Within(c.White, 0, most.white) &&
+		number.Within(c.Walk, 0, most.walk) &&
+		number.Within(c.Heat, -MaxHeat, MaxHeat) &&
+		number.IsIndex(c.Chamber, chambers)
 }
 
 func (c Clock) eventsAllowed() bool {
@@ -81,7 +84,7 @@ func (e Event) allowed() bool {
 		return false
 	}
 	most := sizes[e.What]
-	return within(e.At, 1, api.MaxSeconds) && within(e.Size, -most, most)
+	return number.Within(e.At, 1, api.MaxSeconds) && number.Within(e.Size, -most, most)
 }
 
 func all[T any](l []T, holds func(T) bool) bool {
@@ -93,8 +96,4 @@ func all[T any](l []T, holds func(T) bool) bool {
 	return true
 }
 
-func within(n, least, most int) bool { return least <= n && n <= most }
-
-func isIndex(n, count int) bool { return within(n, 0, count-1) }
-
-func isSecond(s int) bool { return within(s, 0, api.MaxSeconds) }
+func isSecond(s int) bool { return number.Within(s, 0, api.MaxSeconds) }

@@ -5,6 +5,7 @@ import (
 	"slices"
 
 	"meridian/api"
+	"meridian/number"
 )
 
 // pace is how many seconds pass between two draws of a walk.
@@ -53,7 +54,7 @@ func find(w World, k int, seconds ...int) (*atWork, api.Errno) {
 	if e := Check(w); e != api.OK {
 		return nil, e
 	}
-	if !isIndex(k, len(w.Clocks)) {
+	if !number.IsIndex(k, len(w.Clocks)) {
 		return nil, api.ErrClock
 	}
 	if !all(seconds, isSecond) {
@@ -87,8 +88,8 @@ func (c *atWork) runs(s int) bool { return !c.past(s).stopped }
 // fixed is the phase without the walk: the part that no seed changes.
 func (c *atWork) fixed(s int) int {
 	p := c.past(s)
-	aged := floor(c.Drift*(s*(s-1)/2), api.Day)
-	gained := floor(c.Rate*s+p.kicked+aged, 1000)
+	aged := number.Floor(c.Drift*(s*(s-1)/2), api.Day)
+	gained := number.Floor(c.Rate*s+p.kicked+aged, 1000)
 	warmed := c.Heat * (c.room.temperature(s) - c.room.temperature(0))
 	return c.Phase + gained + warmed + p.jumped
 }
@@ -145,7 +146,7 @@ func (c *atWork) track(from, step, count int) ([]int, api.Errno) {
 
 func (c *atWork) reading(s int) Moment {
 	shown := c.shown(s)
-	sec := floor(shown, Second)
+	sec := number.Floor(shown, Second)
 	return Moment{Sec: s + sec, Fs: shown - sec*Second}
 }
 
@@ -188,12 +189,3 @@ func (c Chamber) temperature(s int) int {
 
 // around is the span of the numbers that are at most far away from middle.
 func around(middle, far int) api.Span { return api.Span{Lo: middle - far, Hi: middle + far} }
-
-// floor divides by b, which is above 0, towards the lesser number.
-func floor(a, b int) int {
-	q := a / b
-	if a%b < 0 {
-		q--
-	}
-	return q
-}

@@ -1,6 +1,9 @@
 package world
 
-import "meridian/api"
+import (
+	"meridian/api"
+	"meridian/number"
+)
 
 const maxBound = 1000000000000000
 
@@ -20,7 +23,7 @@ func Mix(x, y uint64) uint64 {
 
 // Draw returns a draw: a number from -most to most.
 func Draw(seed uint64, kind, clock, index, most int) (int, api.Errno) {
-	if kind < 0 || clock < 0 || index < 0 || !within(most, 0, maxBound) {
+	if kind < 0 || clock < 0 || index < 0 || !number.Within(most, 0, maxBound) {
 		return 0, api.ErrArg
 	}
 	return draw(source(seed, kind, clock), index, most), api.OK

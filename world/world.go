@@ -2,7 +2,10 @@
 // that comes from a seed alone. It is layer 1: see shared/doc/01-world.md.
 package world
 
-import "meridian/api"
+import (
+	"meridian/api"
+	"meridian/number"
+)
 
 // Kind is the kind of a clock.
 type Kind int
@@ -65,7 +68,7 @@ func Temperature(w World, chamber, s int) (int, api.Errno) {
 	if e := Check(w); e != api.OK {
 		return 0, e
 	}
-	if !isIndex(chamber, len(w.Chambers)) {
+	if !number.IsIndex(chamber, len(w.Chambers)) {
 		return 0, api.ErrClock
 	}
 	if !isSecond(s) {
@@ -108,7 +111,7 @@ func Track(w World, k, from, step, count int) ([]int, api.Errno) {
 	if e != api.OK {
 		return nil, e
 	}
-	if step < 1 || !within(count, 0, MaxTrack) {
+	if step < 1 || !number.Within(count, 0, MaxTrack) {
 		return nil, api.ErrArg
 	}
 	if !isSecond(from) || count > 1 && step > (api.MaxSeconds-from)/(count-1) {
@@ -155,7 +158,7 @@ func Back(w World, k int, m Moment) (int, api.Errno) {
 	if e != api.OK {
 		return 0, e
 	}
-	if !within(m.Fs, 0, Second-1) {
+	if !number.Within(m.Fs, 0, Second-1) {
 		return 0, api.ErrArg
 	}
 	return c.back(m)
