@@ -1,4 +1,4 @@
-// Package number has what all layers ask of whole numbers.
+// Package number has what all layers ask of whole numbers and of fractions.
 package number
 
 // Within reports whether n is from least to most.
