@@ -2,9 +2,9 @@ package calendar
 
 import (
 	"strconv"
-	"strings"
 
 	"meridian/api"
+	"meridian/number"
 )
 
 // pattern is a text of a date, with 0 for each digit.
@@ -12,8 +12,8 @@ const pattern = "0000-00-00 00:00:00"
 
 // Format returns the text of a date.
 func Format(d Date) string {
-	return digits(d.Year, 4) + "-" + digits(d.Month, 2) + "-" + digits(d.Day, 2) + " " +
-		digits(d.Hour, 2) + ":" + digits(d.Minute, 2) + ":" + digits(d.Second, 2)
+	return number.Digits(d.Year, 4) + "-" + number.Digits(d.Month, 2) + "-" + number.Digits(d.Day, 2) + " " +
+		number.Digits(d.Hour, 2) + ":" + number.Digits(d.Minute, 2) + ":" + number.Digits(d.Second, 2)
 }
 
 // Parse returns the date of a text.
@@ -24,16 +24,6 @@ func Parse(text string) (d Date, e api.Errno) {
 		}
 	}()
 	return read(text), api.OK
-}
-
-// digits are those of n, at least count of them, with a - in front if n is below 0.
-func digits(n, count int) string {
-	s, below := strings.CutPrefix(strconv.Itoa(n), "-")
-	s = strings.Repeat("0", max(0, count-len(s))) + s
-	if below {
-		return "-" + s
-	}
-	return s
 }
 
 // read reads a date; a text that has not the form is a panic.

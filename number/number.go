@@ -1,4 +1,5 @@
-// Package number has what all layers ask of whole numbers and of fractions.
+// Package number has what all layers ask of whole numbers, of their texts and of
+// fractions.
 package number
 
 // Within reports whether n is from least to most.
