@@ -38,3 +38,20 @@ func TestIsLowest(t *testing.T) {
 		}
 	}
 }
+
+func TestCompare(t *testing.T) {
+	var l []api.Ratio
+	for _, n := range []int{0, 1, -1, 2, -2, 3, 7, -7, 1000000000, -1000000000, 999999999} {
+		for _, d := range []int{1, 2, 3, 7, 999999999, 1000000000} {
+			l = append(l, number.Lowest(n, d))
+		}
+	}
+	for _, a := range l {
+		for _, b := range l {
+			want := big.NewRat(int64(a.N), int64(a.D)).Cmp(big.NewRat(int64(b.N), int64(b.D)))
+			if is := number.Compare(a, b); is != want {
+				t.Error(a, b, is)
+			}
+		}
+	}
+}

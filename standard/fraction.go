@@ -1,7 +1,6 @@
 package standard
 
 import (
-	"cmp"
 	"math"
 
 	"meridian/api"
@@ -23,7 +22,7 @@ func Add(a, b api.Ratio) (api.Ratio, api.Errno) { return ofTwo(a, b, add) }
 func Multiply(a, b api.Ratio) (api.Ratio, api.Errno) { return ofTwo(a, b, multiply) }
 
 // Compare compares two fractions.
-func Compare(a, b api.Ratio) (int, api.Errno) { return ofTwo(a, b, compare) }
+func Compare(a, b api.Ratio) (int, api.Errno) { return ofTwo(a, b, number.Compare) }
 
 // ofTwo is what f does with two fractions, if they are numbers of this layer.
 func ofTwo[T any](a, b api.Ratio, f func(a, b api.Ratio) T) (T, api.Errno) {
@@ -58,8 +57,6 @@ func divide(a, b api.Ratio) api.Ratio { return quotient(a.N*b.D, a.D*b.N) }
 func square(a api.Ratio) api.Ratio { return multiply(a, a) }
 
 func negate(a api.Ratio) api.Ratio { return api.Ratio{N: -a.N, D: a.D} }
-
-func compare(a, b api.Ratio) int { return cmp.Compare(a.N*b.D, b.N*a.D) }
 
 func whole(n int) api.Ratio { return api.Ratio{N: n, D: 1} }
 
