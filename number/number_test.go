@@ -23,6 +23,23 @@ func TestWithin(t *testing.T) {
 	}
 }
 
+func TestAreIndices(t *testing.T) {
+	for _, x := range []struct {
+		l     []int
+		count int
+		want  bool
+	}{
+		{nil, 0, true}, {nil, 3, true}, {nil, -1, true}, {[]int{}, 0, true}, {[]int{0}, 1, true}, {[]int{2}, 3, true}, {[]int{0, 1, 2}, 3, true}, {[]int{0, 2}, 3, true},
+		{[]int{0}, 0, false}, {[]int{0}, -1, false}, {[]int{3}, 3, false}, {[]int{-1}, 3, false}, {[]int{-1, 0}, 3, false}, {[]int{0, 3}, 3, false}, {[]int{1, 3, 4}, 3, false},
+		{[]int{1, 1}, 3, false}, {[]int{1, 0}, 3, false}, {[]int{0, 2, 1}, 3, false}, {[]int{0, 2, 2}, 3, false}, {[]int{0, 1, 0}, 3, false},
+		{[]int{math.MinInt}, 3, false}, {[]int{math.MaxInt}, 3, false}, {[]int{0, math.MinInt}, math.MaxInt, false}, {[]int{0, math.MaxInt - 1}, math.MaxInt, true},
+	} {
+		if is := number.AreIndices(x.l, x.count); is != x.want {
+			t.Error(x, is)
+		}
+	}
+}
+
 // R7: a modulo n is from 0 to n - 1; the quotients are on both sides of a / b.
 func TestQuotients(t *testing.T) {
 	for _, b := range []int{1, 2, 3, 7, 1000, math.MaxInt} {

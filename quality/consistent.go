@@ -71,12 +71,7 @@ func checkSet(c Comparison, set []int) api.Errno {
 // isSet reports whether there are indices of count results in set, in increasing
 // order.
 func isSet(set []int, count int) bool {
-	for i, at := range set {
-		if !number.IsIndex(at, count) || i > 0 && at <= set[i-1] {
-			return false
-		}
-	}
-	return len(set) > 0
+	return len(set) > 0 && number.AreIndices(set, count)
 }
 
 // sets yields all sets of indices of count results: those with more indices
